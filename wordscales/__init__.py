@@ -1,0 +1,1 @@
+"""Wordscales: machines that give each word a weight."""
