@@ -30,6 +30,16 @@ WORDS_OUT = re.compile(
     r"|NamedTuple|TypedDict|TYPE_CHECKING|abstractmethod)\b|dataclass|overload|contextmanager"
 )
 NAMES_OUT = "register mro elements open input version_info with_traceback add_note".split()
+KEYWORDS = {
+    "sorted": ("key", "reverse"), "min": ("key", "default"), "max": ("key", "default"), "sum": ("start",),
+    "enumerate": ("start",), "zip": ("strict",),
+}
+TAKEN_ERRORS = "KeyError ZeroDivisionError StopIteration ValueError LookupError IndexError".split()
+WALKED = "zip enumerate reversed range".split()
+WALKED_METHODS = "items keys values".split()
+WALKERS = "list tuple dict sorted sum any all enumerate zip min max".split()
+CHANGES = "append clear extend insert pop remove reverse setdefault update".split()
+OF_PYTHONS_VALUES = {name for kind in (str, int, list, tuple, dict, set, bytes) for name in dir(kind)}
 PLAIN_NAME = re.compile(r"[A-Za-z][A-Za-z0-9_]*\Z")
 
 
@@ -174,6 +184,69 @@ class Language(unittest.TestCase):
         for name, node in nodes(ast.Call):
             if isinstance(node.func, ast.Attribute):
                 self.assertIn(node.func.attr, METHODS + own, f"{name}: line {node.lineno}")
+
+    def test_tops_hold_plain_values(self):
+        for name, tree in trees():
+            for node in tree.body:
+                if isinstance(node, ast.Assign):
+                    self.assertIsInstance(ast.literal_eval(node.value), (int, str, tuple), name)
+
+    def test_values_and_methods_of_objects(self):
+        methods = []
+        for name, node in nodes(ast.ClassDef):
+            own = [part.name for part in node.body if isinstance(part, ast.FunctionDef)]
+            self.assertEqual(len(own), len(set(own)), f"{name}: {node.name}")
+            methods.extend(method for method in own if method != "__init__")
+        values = [node.attr for name, node in nodes(ast.Attribute) if isinstance(node.ctx, ast.Store)]
+        for used in methods + values:
+            self.assertRegex(used, PLAIN_NAME)
+            self.assertNotIn(used, OF_PYTHONS_VALUES)
+        self.assertEqual([value for value in values if value in methods], [])
+        for name, node in nodes(ast.Attribute):
+            self.assertIn(node.attr, METHODS + methods + values, f"{name}: line {node.lineno}")
+
+    def test_keywords(self):
+        own = [node.name for name, node in nodes((ast.FunctionDef, ast.ClassDef))]
+        for name, node in nodes(ast.Call):
+            called = node.func.id if isinstance(node.func, ast.Name) else node.func.attr
+            for keyword in node.keywords:
+                self.assertTrue(called in own or keyword.arg in KEYWORDS.get(called, ()), f"{name}: line {node.lineno}")
+
+    def test_errors_raised_and_taken_by_name(self):
+        own = [node.name for name, node in nodes(ast.ClassDef) if name == "errors.py"]
+        for name, node in nodes(ast.Raise):
+            self.assertIsInstance(node.exc, ast.Call, f"{name}: line {node.lineno}")
+            self.assertIn(node.exc.func.id, own)
+        for name, node in nodes(ast.ExceptHandler):
+            self.assertIn(node.type.id, own + TAKEN_ERRORS, f"{name}: line {node.lineno}")
+
+    def test_walked_at_once(self):
+        for name, tree in trees():
+            allowed = []
+            for node in ast.walk(tree):
+                if isinstance(node, (ast.For, ast.comprehension)):
+                    allowed.append(node.iter)
+                elif isinstance(node, ast.Call) and isinstance(node.func, ast.Name) and node.func.id in WALKERS:
+                    allowed.extend(node.args[:1])
+                elif isinstance(node, ast.Call) and isinstance(node.func, ast.Attribute) and node.func.attr == "join":
+                    self.assertIsInstance(node.func.value, ast.Constant)
+                    allowed.extend(node.args)
+            for node in ast.walk(tree):
+                if isinstance(node, ast.Call):
+                    by_name = isinstance(node.func, ast.Name) and node.func.id in WALKED
+                    by_method = isinstance(node.func, ast.Attribute) and node.func.attr in WALKED_METHODS
+                    if by_name or by_method:
+                        self.assertIn(node, allowed, f"{name}: line {node.lineno}")
+                    self.assertFalse(isinstance(node.func, ast.Name) and node.func.id in ("set", "frozenset"), name)
+
+    def test_what_a_loop_walks_stays(self):
+        for name, loop in nodes(ast.For):
+            walked = [ast.unparse(part) for part in ast.walk(loop.iter) if isinstance(part, (ast.Name, ast.Attribute))]
+            for part in [inner for row in loop.body for inner in ast.walk(row)]:
+                if isinstance(part, ast.Call) and isinstance(part.func, ast.Attribute) and part.func.attr in CHANGES:
+                    self.assertNotIn(ast.unparse(part.func.value), walked, f"{name}: line {part.lineno}")
+                if isinstance(part, ast.Subscript) and isinstance(part.ctx, ast.Store):
+                    self.assertNotIn(ast.unparse(part.value), walked, f"{name}: line {part.lineno}")
 
 
 if __name__ == "__main__":

@@ -1,6 +1,7 @@
 """Fractions: tuples (top, bottom) without a common divisor above 1, bottom above nought."""
 
 NOUGHT = (0, 1)
+ONE = (1, 1)
 
 
 def common_divisor(one, other):
@@ -45,6 +46,15 @@ def shared_bottom(fractions):
 
 def tops_over(fractions, bottom):
     return [fraction[0] * (bottom // fraction[1]) for fraction in fractions]
+
+
+def without_common(tops):
+    common = 0
+    for top in tops:
+        common = common_divisor(top, common)
+    if common < 2:
+        return list(tops)
+    return [top // common for top in tops]
 
 
 def whole_pair_sum(ones, others):

@@ -50,9 +50,13 @@ def whole_row_behind(machine, word):
         if sign not in whole_steps:
             whole_steps[sign] = whole_step(machine[1][sign])
         step = whole_steps[sign]
-        tops = [whole_pair_sum(tops, entering) for entering in step[0]]
+        tops = led_on(tops, step[0])
         bottom = bottom * step[1]
     return (tops, bottom)
+
+
+def led_on(tops, columns):
+    return [whole_pair_sum(tops, entering) for entering in columns]
 
 
 # The signs are asked one by one: an index below nought would find a step.

@@ -8,6 +8,11 @@ from wordscales.machines import MOST_ROOMS, column
 def added(one, other):
     refuse_unlike(one, other)
     refuse_too_many(len(one[0]) + len(other[0]))
+    return beside(one, other)
+
+
+# The sum without a bound: two machines that are compared may have more rooms than one machine.
+def beside(one, other):
     steps = [added_step(one_step, other_step) for one_step, other_step in zip(one[1], other[1])]
     return (one[0] + other[0], tuple(steps), one[2] + other[2])
 
